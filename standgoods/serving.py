@@ -1,4 +1,4 @@
-"""Who takes what where people are served one behind another, and how many could be served at most.
+"""Who takes what where people are served one behind another, how far down, and how many could be served at most.
 
 What somebody takes is told as the good and one, so that 0 is free for nothing.
 """
@@ -29,6 +29,18 @@ def serve_all(pieces, lists):
 def count_served(taken):
     """How many have something."""
     return len(taken) - taken.count(NOTHING)
+
+
+def how_far_down(goods, take):
+    """The place of what is taken in the list; as many as the list has goods, if that is nothing."""
+    if take == NOTHING:
+        return len(goods)
+    return goods.index(take - 1)
+
+
+def all_far_down(lists, taken):
+    """How far down each is served."""
+    return [how_far_down(goods, take) for goods, take in zip(lists, taken)]
 
 
 def pieces_left(pieces, taken):

@@ -13,9 +13,19 @@ LEFT = 6
 MOST = 7
 PLUS = 8
 TOLD = 9
+AHEAD = 10
+LAY = 11
+RANKS = 12
+SWAP = 13
+NEEDED = 14
+WANTED = 15
+LOOK = 16
+SERVE = 17
+SUMS = 18
+STATE = 19
 
 # By a call's number: how many whole numbers stand behind it, ahead of its list of goods if it has one.
-WHOLE_NUMBERS = (1, 2, 0, 1, 0, 0, 0, 0, 1, 1)
+WHOLE_NUMBERS = (1, 2, 0, 1, 0, 0, 0, 0, 1, 1, 1, 1, 0, 2, 0, 1, 1, 0, 0, 0)
 
 
 def answers(calls):
@@ -61,6 +71,10 @@ def answer_call(shop, call):
         return shop.person(call[2:])
     if number == DROP:
         return shop.drop(call[1])
+    if number == SWAP:
+        return shop.swap(call[1], call[2])
+    if number == SERVE:
+        return shop.serve()
     return answer_question(shop, call)
 
 
@@ -75,6 +89,28 @@ def answer_question(shop, call):
         return shop.left()
     if number == MOST:
         return shop.most()
+    if number == RANKS:
+        return shop.ranks()
+    if number == NEEDED:
+        return shop.needed()
+    if number == SUMS:
+        return shop.sums()
+    if number == STATE:
+        return shop.state()
+    return answer_question_about(shop, call)
+
+
+def answer_question_about(shop, call):
+    """What the store answers to a question about a good, a person or so many pieces."""
+    number = call[0]
     if number == PLUS:
         return shop.plus(call[1])
-    return shop.told(call[1], call[3:])
+    if number == TOLD:
+        return shop.told(call[1], call[3:])
+    if number == AHEAD:
+        return shop.ahead(call[1])
+    if number == LAY:
+        return shop.lay(call[1])
+    if number == WANTED:
+        return shop.wanted(call[1])
+    return shop.look(call[1])

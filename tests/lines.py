@@ -53,6 +53,32 @@ def told(number, *goods):
     return [9, number, len(goods), *goods]
 
 
+def ahead(number):
+    return [10, number]
+
+
+def lay(count):
+    return [11, count]
+
+
+def swap(one, other):
+    return [13, one, other]
+
+
+def wanted(good):
+    return [15, good]
+
+
+def look(number):
+    return [16, number]
+
+
+RANKS, NEEDED, SERVE, SUMS, STATE = [12], [14], [17], [18], [19]
+
+# Calls whose answers tell two stores apart if anything in them differs.
+PROBE = [STATE] + [look(number) for number in range(7)] + [GOT, LEFT, MOST]
+
+
 def shop(pieces, lists):
     """The calls by which a new store comes to hold these pieces and these people."""
     calls = [begin(len(pieces))]
@@ -79,26 +105,13 @@ def ask(pieces, lists, *calls):
     return answer_line(*before, *calls)[len(before):]
 
 
-def probe(goods):
-    """Calls whose answers tell two stores of so many goods apart if anything in them differs.
-
-    With two goods alone, of which there is enough for all, each tells which of them stands first on their list.
-    """
-    calls = [GOT, LOST, LEFT, MOST] + [plus(good) for good in range(goods)]
-    calls += [put(good, 0) for good in range(goods)]
-    for one in range(goods):
-        for other in range(one + 1):
-            calls += [put(one, 100), put(other, 100), GOT, put(one, 0), put(other, 0)]
-    return calls
-
-
 class StoreCase(unittest.TestCase):
     def assert_asked(self, pieces, lists, call, expected):
         self.assertEqual(ask(pieces, lists, call), [expected])
 
     def assert_refused(self, pieces, lists, call, refusal):
         """The call answers the refusal alone, and the store is as it was."""
-        untouched = ask(pieces, lists, *probe(len(pieces)))
-        answered = ask(pieces, lists, call, *probe(len(pieces)))
+        untouched = ask(pieces, lists, *PROBE)
+        answered = ask(pieces, lists, call, *PROBE)
         self.assertEqual(answered[0], [refusal], call)
         self.assertEqual(answered[1:], untouched, call)

@@ -4,7 +4,8 @@ import unittest
 
 from standgoods.store import answers
 from tests.lines import (
-    GOT, LARGEST, LEFT, LOST, MOST, NOT_BEGUN, answer_line, begin, drop, person, plus, put, shop, told,
+    GOT, LARGEST, LEFT, LOST, MOST, NEEDED, NOT_BEGUN, OUT_OF_RANGE, RANKS, SERVE, STATE, SUMS, ahead, answer_line,
+    begin, drop, lay, look, person, plus, put, shop, swap, told, wanted,
 )
 
 
@@ -21,6 +22,8 @@ class Untouchable(list):
 
 ALL_CALLS = shop([2, 0, 1], [[0, 1], [1, 2], [2]]) + [
     GOT, LOST, LEFT, MOST, plus(1), told(2, 0, 1), drop(0), GOT, person(), put(7, 7), told(0, *[LARGEST] * 8),
+    ahead(1), lay(3), RANKS, swap(0, 1), NEEDED, wanted(2), look(1), SUMS, STATE, swap(0, 0), lay(9), look(LARGEST),
+    SERVE, STATE, begin(2), SERVE,
 ]
 
 
@@ -46,8 +49,33 @@ class TheForm(unittest.TestCase):
             2, 1, 1,
         ])
 
+    def test_the_other_ten_to_the_number(self):
+        line = [0, 2, 1, 0, 1, 1, 1, 1, 2, 2, 0, 1, 2, 1, 0]
+        line += [10, 1, 11, 1, 12, 13, 0, 1, 14, 15, 1, 16, 1, 18, 19, 17, 19]
+        self.assertEqual(answers(line), [
+            1, 0,
+            1, 0,
+            1, 0,
+            1, 0,
+            1, 1,
+            3, 1, 0, 2,
+            3, 1, 1, 0,
+            3, 1, 0, 1,
+            2, 2, 1,
+            3, 2, 0, 1,
+            2, 0, 1,
+            3, 2, 0, 1,
+            4, 0, 2, 2, 2,
+            4, 2, 2, 1, 1,
+            3, 2, 1, 2,
+            4, 2, 0, 0, 0,
+        ])
+
     def test_refusals_stand_alone(self):
         self.assertEqual(answers([4, 0, 0, 0, 1, 8, 1, 2, 0, 3, 0]), [1, -11, 1, -22, 1, 0, 1, -2, 1, -22, 1, -2])
+        line = [17, 0, 1, 10, 0, 11, 9, 13, 0, 0, 15, 1, 16, 0, 2, 1, 0, 13, 0, 0, 13, 1, 1]
+        refusals = [1, -2, 1, -22, 1, -2, 1, -2, 1, -2]
+        self.assertEqual(answers(line), [1, -11, 1, 0] + refusals + [1, 0, 1, -22, 1, -2])
 
     def test_lists_of_none_and_of_eight_are_read_to_their_end(self):
         line = [person(), begin(1), person(*[4] * 8), told(0), person(0), told(0, *[4] * 8), told(0), GOT]
@@ -82,6 +110,10 @@ class Whole(unittest.TestCase):
         line = flat(ALL_CALLS)
         self.assertEqual(answers(line), answers(line))
         self.assertEqual(answers(GOT), [1, NOT_BEGUN])
+        self.assertEqual(answers(STATE), [1, NOT_BEGUN])
+
+    def test_all_twenty_calls_are_among_these(self):
+        self.assertEqual({call[0] for call in ALL_CALLS}, set(range(20)))
 
 
 class Long(unittest.TestCase):
@@ -102,6 +134,36 @@ class Long(unittest.TestCase):
         later = [[1]] + first[1:]
         self.assertEqual(len(line), 400)
         self.assertEqual(answer_line(*line), [[0]] + first + later * 48 + [[1, 1, 0]] * 7)
+
+    def test_400_times_lay_with_six_people_and_five_goods(self):
+        lists = [[0, 1, 2, 3, 4], [1, 2, 3, 4, 0], [2, 3, 4, 0, 1], [3, 4, 0, 1, 2], [3, 0], [0]]
+        start = shop([1] * 5, lists)
+        rest = 400 - len(start)
+        self.assertEqual(answer_line(*start, *[lay(8)] * rest)[len(start):], [[6, 2, 1, 1, 2, 2]] * rest)
+        self.assertEqual(answer_line(*[lay(8)] * 400), [[NOT_BEGUN]] * 400)
+        self.assertEqual(answer_line(begin(5), *[lay(8)] * 399)[1:], [[0, 0, 0, 0, 0, 8]] * 399)
+        self.assertEqual(answer_line(begin(5), *[lay(9)] * 399)[1:], [[OUT_OF_RANGE]] * 399)
+
+    def test_400_calls_of_all_twenty_kinds(self):
+        rounds = [
+            begin(2), put(0, 2), put(1, 1), person(1, 0), person(1), GOT, LOST, LEFT, MOST, plus(1), told(1, 0),
+            ahead(1), lay(2), RANKS, swap(0, 1), NEEDED, wanted(1), look(0), SUMS, STATE, SERVE, STATE, person(0),
+            drop(0), SERVE,
+        ]
+        expected = [
+            [0], [0], [0], [0], [1], [1, 2, 0], [1, 1], [2, 2, 0], [2, 1], [1, 1], [1, 0],
+            [2, 0, 2], [2, 0, 2], [1, 0, 1], [2, 1], [1, 1], [2, 2], [1, 1], [0, 3, 2, 2], [2, 2, 2, 1], [2, 2, 1],
+            [2, 0, 1, 0], [0], [0], [0],
+        ]
+        self.assertEqual({call[0] for call in rounds}, set(range(20)))
+        self.assertEqual(answer_line(*rounds * 16), expected * 16)
+
+    def test_400_times_serve_and_swap(self):
+        rounds = [person(0), person(0, 1), swap(0, 1), SERVE]
+        answered = answer_line(begin(2), put(0, 100), put(1, 100), *rounds * 99, STATE)
+        self.assertEqual(answered[3:-1], ([[0], [1], [2, 2], [2, 1, 1]] * 50
+                                          + [[0], [1], [1, 1], [1, 2, 0]] * 49))
+        self.assertEqual(answered[-1], [2, 0, 0, 51])
 
     def test_400_begins(self):
         self.assertEqual(answer_line(*[begin(3)] * 400), [[0]] * 400)

@@ -1,10 +1,12 @@
-"""What holds (a to d and f), on all small stores and on some larger ones."""
+"""What holds (a to f), on all small stores and on some larger ones."""
 
 import itertools
 import random
 import unittest
 
-from tests.lines import GOT, LEFT, LOST, MOST, ask, drop, plus, put, told
+from tests.lines import (
+    GOT, LEFT, LOST, MOST, NEEDED, RANKS, SERVE, STATE, ahead, ask, drop, lay, plus, put, swap, told,
+)
 
 
 def lists_of(goods):
@@ -32,6 +34,10 @@ def all_stores():
 
 def how_far_down(goods, taken):
     return goods.index(taken - 1) if taken else len(goods)
+
+
+def stocks_of(goods, count):
+    return [stock for stock in itertools.product(range(count + 1), repeat=goods) if sum(stock) == count]
 
 
 def ways(pieces, lists):
@@ -113,6 +119,58 @@ class WhatHolds(unittest.TestCase):
                     self.assertEqual(then, ask(pieces, changed, GOT)[0][1 + number])
                     if then - 1 in goods:
                         self.assertGreaterEqual(how_far_down(goods, then), how_far_down(goods, now))
+
+    def test_who_comes_first_is_never_worse_off(self):
+        for pieces, lists in all_stores():
+            got = ask(pieces, lists, GOT)[0]
+            for number, goods in enumerate(lists):
+                moved = [goods] + lists[:number] + lists[number + 1:]
+                then = ask(pieces, moved, GOT)[0]
+                first, now, served = ask(pieces, lists, ahead(number))[0]
+                self.assertEqual([first, now, served], [then[1], got[1 + number], then[0]], (pieces, lists, number))
+                self.assertLessEqual(how_far_down(goods, first), how_far_down(goods, now))
+
+    def test_by_no_stock_of_so_many_pieces_more_are_served(self):
+        for pieces, lists in itertools.chain(small_stores(), larger_stores(25)):
+            for count in (0, 1, 2, 3, 5):
+                laid = ask(pieces, lists, lay(count))[0]
+                tried = []
+                for stock in stocks_of(len(pieces), count):
+                    got, ranks = ask(stock, lists, GOT, RANKS)
+                    tried.append((-got[0], ranks[0], stock))
+                served, far, stock = min(tried)
+                self.assertEqual(laid, [-served, *stock], (pieces, lists, count))
+                self.assertEqual(-served, min(count, len(lists)))
+
+    def test_how_far_down_each_is_served(self):
+        for pieces, lists in all_stores():
+            got, ranks = ask(pieces, lists, GOT, RANKS)
+            down = [how_far_down(goods, taken) for goods, taken in zip(lists, got[1:])]
+            self.assertEqual(ranks, [sum(down)] + down, (pieces, lists))
+
+    def test_needed_is_of_what_one_piece_fewer_serves_fewer(self):
+        for pieces, lists in all_stores():
+            got, needed = ask(pieces, lists, GOT, NEEDED)
+            fewer = []
+            for good, count in enumerate(pieces):
+                if count and ask(pieces, lists, put(good, count - 1), GOT)[1][0] < got[0]:
+                    fewer.append(good)
+            self.assertEqual(needed, [len(fewer)] + fewer, (pieces, lists))
+
+    def test_after_a_swap_it_is_as_if_they_had_come_so(self):
+        for pieces, lists in itertools.chain(small_stores(), larger_stores(60)):
+            for one, other in itertools.permutations(range(len(lists)), 2):
+                changed = list(lists)
+                changed[one], changed[other] = lists[other], lists[one]
+                before, answered, after, left = ask(pieces, lists, GOT, swap(one, other), GOT, LEFT)
+                self.assertEqual([after, left], ask(pieces, changed, GOT, LEFT), (pieces, lists, one, other))
+                self.assertEqual(answered, [after[0], before[0]])
+
+    def test_serving_gives_what_was_told_and_leaves_what_was_told(self):
+        for pieces, lists in all_stores():
+            got, left, served, state = ask(pieces, lists, GOT, LEFT, SERVE, STATE)
+            self.assertEqual(served, got, (pieces, lists))
+            self.assertEqual(state, [len(pieces), 0] + left[1:], (pieces, lists))
 
     def test_of_no_good_more_is_given_than_there_is(self):
         for pieces, lists in all_stores():

@@ -1,9 +1,9 @@
-"""plus and told (point 3)."""
+"""plus, told and ahead (point 3)."""
 
 import unittest
 
 from tests.lines import (
-    GOT, LARGEST, LEFT, NONE_SUCH, OUT_OF_RANGE, SIX_LISTS, WRONG_LISTS, StoreCase, ask, plus, told,
+    GOT, LARGEST, LEFT, NONE_SUCH, OUT_OF_RANGE, SIX_LISTS, WRONG_LISTS, StoreCase, ahead, ask, plus, told,
 )
 
 
@@ -92,6 +92,49 @@ class Told(StoreCase):
     def test_no_such_person_is_told_ahead_of_a_wrong_list(self):
         for goods in WRONG_LISTS:
             self.assert_refused([1, 1, 1], [[0, 1], [2]], told(2, *goods), NONE_SUCH)
+
+
+class Ahead(StoreCase):
+    def test_more_would_be_served_then(self):
+        self.assert_asked([1, 1], [[0, 1], [0]], ahead(1), [1, 0, 2])
+
+    def test_fewer_would_be_served_then(self):
+        self.assert_asked([1, 1], [[0], [0, 1]], ahead(1), [1, 2, 1])
+
+    def test_all_others_come_as_they_do(self):
+        self.assert_asked([1, 1, 1], [[0, 1], [0], [2]], ahead(2), [3, 3, 2])
+        self.assert_asked([1, 1, 1], [[2], [0, 1], [0], [2, 1]], ahead(3), [3, 2, 2])
+
+    def test_who_comes_first_already(self):
+        self.assert_asked([1, 1], [[0, 1], [0]], ahead(0), [1, 1, 1])
+
+    def test_first_of_six(self):
+        self.assert_asked([1, 1, 0], SIX_LISTS, ahead(5), [2, 0, 2])
+
+    def test_the_second_of_the_list_where_the_first_is_not_there(self):
+        self.assert_asked([0, 1], [[1], [0, 1]], ahead(1), [2, 0, 1])
+
+    def test_no_pieces(self):
+        self.assert_asked([0, 0], [[0], [1]], ahead(1), [0, 0, 0])
+
+    def test_a_list_of_one(self):
+        self.assert_asked([0, 1], [[1], [1], [0]], ahead(1), [2, 0, 1])
+        self.assert_asked([0, 1], [[1], [1], [0]], ahead(2), [0, 0, 1])
+
+    def test_two_who_want_the_same_one_piece(self):
+        self.assert_asked([1], [[0], [0]], ahead(0), [1, 1, 1])
+        self.assert_asked([1], [[0], [0]], ahead(1), [1, 0, 1])
+
+    def test_a_list_that_stands_in_nobodys_way(self):
+        self.assert_asked([1, 1, 1], [[0], [0, 1], [2]], ahead(2), [3, 3, 3])
+
+    def test_the_place_is_not_kept(self):
+        self.assertEqual(ask([1, 1], [[0, 1], [0]], ahead(1), GOT, ahead(1)), [[1, 0, 2], [1, 1, 0], [1, 0, 2]])
+
+    def test_no_such_person(self):
+        for number in (2, 3, 6, LARGEST):
+            self.assert_refused([1, 1], [[0], [1, 0]], ahead(number), NONE_SUCH)
+        self.assert_refused([1, 1], [], ahead(0), NONE_SUCH)
 
 
 if __name__ == "__main__":
